@@ -1,6 +1,9 @@
 """One shelf: the row its things were laid in, and what was asked for since."""
 
+from counterrow.best import best_that_stays
+from counterrow.least import least_at_all
 from counterrow.rows import has_each_once, steps_if_it_stays
+from counterrow.rules import BY_TIMES, steps_by_rule
 
 MOST_THINGS = 4
 MOST_TIMES = 10
@@ -40,3 +43,15 @@ class Shelf:
         if not has_each_once(row, len(self.row)):
             return [-1]
         return [steps_if_it_stays(row, self.asked)]
+
+    def best(self):
+        return best_that_stays(len(self.row), self.asked)
+
+    def rule(self, which):
+        # The rules are numbered from 0, and this is the last of them.
+        if which > BY_TIMES:
+            return [-1]
+        return steps_by_rule(which, self.row, self.asked)
+
+    def least(self):
+        return [least_at_all(self.row, self.asked)]

@@ -3,7 +3,9 @@
 import itertools
 import unittest
 
-from callforms import HIGHEST, asks, begins, first_numbers, fixed, laid, rows_up_to_six
+from callforms import (
+    HIGHEST, answered, asks, begins, first_numbers, fixed, laid, last_answer, rows_of, rows_up_to_six, rule,
+)
 from counterrow.shelf import Shelf
 
 
@@ -53,22 +55,23 @@ class Laid(unittest.TestCase):
 
 
 class HowTheyLie(unittest.TestCase):
+    """While nothing is asked for, a rule answers no steps and the row that was laid."""
+
     def test_a_new_shelf(self):
-        self.assertEqual(Shelf().row, [0])
+        self.assertEqual(last_answer(rule(0)), [0, 0])
 
     def test_begun_in_the_order_of_their_numbers(self):
         for things in (1, 2, 3, 4):
-            shelf = Shelf()
-            shelf.begins(things)
-            self.assertEqual(shelf.row, list(range(things)))
+            self.assertEqual(last_answer(begins(things), rule(0)), [0, *range(things)])
 
     def test_laid_as_told(self):
-        shelf = Shelf()
-        shelf.begins(4)
-        shelf.laid([2, 0, 3, 1])
-        self.assertEqual(shelf.row, [2, 0, 3, 1])
-        shelf.laid([1, 0, 2, 3])
-        self.assertEqual(shelf.row, [1, 0, 2, 3])
+        for things in (1, 2, 3, 4):
+            for row in rows_of(things):
+                self.assertEqual(last_answer(begins(things), laid(*row), rule(0)), [0, *row])
+
+    def test_laid_again_as_told_last(self):
+        calls = [begins(4), laid(2, 0, 3, 1), laid(1, 0, 2, 3), rule(0)]
+        self.assertEqual(last_answer(*calls), [0, 1, 0, 2, 3])
 
     def test_the_row_that_was_handed_in_is_not_kept(self):
         shelf = Shelf()
@@ -76,37 +79,24 @@ class HowTheyLie(unittest.TestCase):
         row = [1, 0]
         shelf.laid(row)
         row.append(5)
-        self.assertEqual(shelf.row, [1, 0])
+        self.assertEqual(shelf.rule(0), [0, 1, 0])
 
     def test_refusals_leave_them_as_they_lay(self):
-        shelf = Shelf()
-        shelf.begins(3)
-        shelf.laid([2, 0, 1])
-        self.assertEqual(shelf.laid([0, 1]), [-1])
-        self.assertEqual(shelf.begins(5), [-1])
-        self.assertEqual(shelf.asks(3), [-2])
-        self.assertEqual(shelf.fixed([0]), [-1])
-        self.assertEqual(shelf.row, [2, 0, 1])
-        shelf.asks(1)
-        self.assertEqual(shelf.laid([0, 1, 2]), [-4])
-        self.assertEqual(shelf.row, [2, 0, 1])
+        for refused in (laid(0, 1), laid(), laid(0, 1, 3), begins(0), begins(5), asks(3), fixed(0), rule(3)):
+            calls = [begins(3), laid(2, 0, 1), refused, rule(0)]
+            self.assertEqual(answered(*calls)[3], [0, 2, 0, 1], refused)
+
+    def test_refused_once_something_was_asked_for_they_lie_as_they_lay(self):
+        calls = [begins(3), laid(2, 0, 1), asks(1), laid(0, 1, 2), rule(1)]
+        self.assertEqual(last_answer(*calls), [3, 2, 1, 0])
 
     def test_asks_and_fixed_move_nothing(self):
-        shelf = Shelf()
-        shelf.begins(3)
-        shelf.laid([2, 0, 1])
-        shelf.asks(1)
-        shelf.fixed([1, 2, 0])
-        self.assertEqual(shelf.row, [2, 0, 1])
+        calls = [begins(3), laid(2, 0, 1), asks(2), fixed(1, 2, 0), asks(2), fixed(0, 1, 2), rule(0)]
+        self.assertEqual(last_answer(*calls), [2, 2, 0, 1])
 
     def test_begun_again_they_lie_in_order_again(self):
-        shelf = Shelf()
-        shelf.begins(3)
-        shelf.laid([2, 0, 1])
-        shelf.asks(1)
-        shelf.begins(3)
-        self.assertEqual(shelf.row, [0, 1, 2])
-        self.assertEqual(shelf.asked, [])
+        calls = [begins(3), laid(2, 0, 1), asks(1), begins(3), rule(0)]
+        self.assertEqual(last_answer(*calls), [0, 0, 1, 2])
 
 
 if __name__ == "__main__":
